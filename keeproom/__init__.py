@@ -1,0 +1,1 @@
+"""Keeproom: a control room that keeps its orders beside devices nobody knows wholly."""
