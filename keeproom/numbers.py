@@ -35,10 +35,26 @@ def less(a, b):
 
 def position(number, among):
     """The position of a pair among a tuple of pairs, ascending, each once."""
-    rank = sum([1 for other in among if less(other, number)])
+    rank = 0
+    end = len(among)
+    while rank < end:
+        middle = (rank + end) // 2
+        if less(among[middle], number):
+            rank = middle + 1
+        else:
+            end = middle
     if rank < len(among) and not less(number, among[rank]):
         return 2 * rank + 1
     return 2 * rank
+
+
+def put_in(number, among):
+    """A tuple of pairs, ascending, each once: those of such a tuple, and the number."""
+    place = position(number, among)
+    if place % 2 == 1:
+        return among
+    rank = place // 2
+    return among[:rank] + (number,) + among[rank:]
 
 
 def number_for(position, among):

@@ -60,8 +60,13 @@ def parts(tree):
     while waiting:
         part = waiting.pop()
         count += 1
-        waiting.extend([item for item in part if isinstance(item, tuple)])
+        waiting.extend(questions_in(part))
     return count
+
+
+def questions_in(tree):
+    """The trees of the questions that a question is made of: A, B, C, as far as it has them."""
+    return [item for item in tree if isinstance(item, tuple)]
 
 
 def _items(tree):

@@ -2,6 +2,7 @@
 
 import ast
 import pathlib
+import re
 import unittest
 
 PACKAGE = pathlib.Path(__file__).resolve().parent.parent / "keeproom"
@@ -16,6 +17,9 @@ LIBRARY = {
 }
 BARRED = {"open", "input", "eval", "exec", "print", "globals", "locals", "vars", "type", "id", "hash", "round",
           "float", "filter", "callable", "object", "memoryview", "bytearray", "compile", "dir", "chr"}
+BARRED_WORDS = re.compile(
+    r"\b(type|typing|enum|Enum|Flag|Generic|Protocol|ABC|namedtuple|NamedTuple|TypedDict|abstractmethod)\b"
+    "|dataclass|overload|contextmanager|_wall|_WallAttr")
 ALLOWED_AT_MODULE_LEVEL = (ast.ImportFrom, ast.FunctionDef, ast.ClassDef, ast.Assign, ast.AnnAssign)
 
 
@@ -69,6 +73,48 @@ class LanguageTest(unittest.TestCase):
                 self.assertNotIsInstance(node, ast.Div, path)
                 if isinstance(node, ast.Constant):
                     self.assertNotIsInstance(node.value, (float, complex), path)
+
+    def test_words_that_are_not_used(self):
+        for path in FILES:
+            self.assertNotRegex(path.read_text(encoding="utf-8"), BARRED_WORDS, path)
+
+    def test_strings(self):
+        for path in FILES:
+            for node in ast.walk(tree_of(path)):
+                if isinstance(node, ast.Constant) and isinstance(node.value, str):
+                    self.assertNotIn("%", node.value, f"{path}:{node.lineno}")
+
+    def test_no_two_files_import_from_each_other(self):
+        imports = {}
+        for path in FILES:
+            found = [node.module.split(".")[1] for node in tree_of(path).body
+                     if isinstance(node, ast.ImportFrom) and node.module.startswith("keeproom.")]
+            imports[path.stem] = set(found)
+        # What imports nothing that is left is taken away, again and again; files in a circle would stay.
+        while free := [name for name, found in imports.items() if not found & set(imports)]:
+            for name in free:
+                del imports[name]
+        self.assertEqual(imports, {})
+
+    def test_names_come_from_the_file_that_defines_them(self):
+        for path in FILES:
+            for node in tree_of(path).body:
+                if isinstance(node, ast.ImportFrom) and node.module.startswith("keeproom."):
+                    body = tree_of(PACKAGE / (node.module.split(".")[1] + ".py")).body
+                    defined = {part.name for part in body if isinstance(part, (ast.FunctionDef, ast.ClassDef))}
+                    defined |= {part.targets[0].id for part in body if isinstance(part, ast.Assign)}
+                    self.assertLessEqual({name.name for name in node.names}, defined, path)
+
+    def test_no_local_name_is_that_of_an_import_or_a_class(self):
+        for path in FILES:
+            tree = tree_of(path)
+            taken = {name.name for node in tree.body if isinstance(node, ast.ImportFrom) for name in node.names}
+            taken |= {node.name for node in tree.body if isinstance(node, ast.ClassDef)}
+            for node in ast.walk(tree):
+                if isinstance(node, ast.Name) and isinstance(node.ctx, ast.Store):
+                    self.assertNotIn(node.id, taken, f"{path}:{node.lineno}")
+                if isinstance(node, ast.arg):
+                    self.assertNotIn(node.arg, taken, f"{path}:{node.lineno}")
 
     def test_names_that_are_not_used(self):
         for path in FILES:
