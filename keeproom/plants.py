@@ -29,24 +29,27 @@ class Plant:
             self.trees.append(tree)
         if sum([parts(tree) for tree in self.trees]) > MOST_PARTS:
             raise PlantError("long", 0)
-        self._reached = []
+        # The shapes that are reached, in their order, and for each of them the ways on from it.
+        self.reached = []
+        self.ways = []
         self._number_of = {}
         self._reach_all()
 
     def shapes(self):
         """How many shapes are reached."""
-        return len(self._reached)
+        return len(self.reached)
 
     def point(self, row):
         """The point after a row: ("point", number of the shape, texts of the numbers)."""
-        state = self._state_after_row(row)
+        state = self.state_after_row(row)
         texts = tuple([write_number(number) for number in numbers_of(state)])
-        return ("point", self._number_of[shape_of(state)], texts)
+        return ("point", self.shape_number(state), texts)
 
     def look(self, row):
         """What is seen after a row: whose turn it is, the possible devices, and the answers."""
-        state = self._state_after_row(row)
-        return {"mine": state[0], "possible": possible(state), "answers": self._answers(state)}
+        state = self.state_after_row(row)
+        texts = [None if answer is None else write_number(answer) for answer in self.answers_at(state)]
+        return {"mine": state[0], "possible": possible(state), "answers": tuple(texts)}
 
     def first_state(self):
         """The state before the first record."""
@@ -65,44 +68,48 @@ class Plant:
             heard.extend(hear_cells(tree, list(cells[start:start + parts(tree)]), name, number))
         return (not mine, tuple(stands), tuple(heard))
 
-    def _state_after_row(self, row):
-        """The state after a row with texts."""
+    def state_after_row(self, row):
+        """The state after a row with texts; raises RowError."""
         state = self.first_state()
         for name, number in read_row(row, self.names):
             state = self.state_after(state, name, number)
         return state
 
-    def _answers(self, state):
-        """For each question the text of what it answers, or None."""
-        texts = []
+    def answers_at(self, state):
+        """The list of what each question answers at a state: a pair, None if nothing."""
+        answers = []
         start = 0
         for tree in self.trees:
-            answer = state[2][start][0]
-            texts.append(None if answer is None else write_number(answer))
+            answers.append(state[2][start][0])
             start += parts(tree)
-        return tuple(texts)
+        return answers
+
+    def shape_number(self, state):
+        """The number of the shape of a state."""
+        return self._number_of[shape_of(state)]
 
     def _reach_all(self):
-        """Numbers the shapes that are reached, in their order."""
+        """Numbers the shapes that are reached, in their order, and finds the ways on from each of them."""
         self._reach(shape_of(self.first_state()))
-        at = 0
-        while at < len(self._reached):
-            self._reach_from(self._reached[at])
-            at += 1
+        while len(self.ways) < len(self.reached):
+            self.ways.append(self._ways_from(self.reached[len(self.ways)]))
 
-    def _reach_from(self, shape):
-        """Reaches the shapes after one record more."""
+    def _ways_from(self, shape):
+        """The ways on from a shape, by each name and position: (name, position, number of the shape after it)."""
         numbers = numbers_of(shape)
+        ways = []
         for name in self.names:
             for position in range(2 * len(numbers) + 1):
                 # A shape is one of the states that have it, so what comes after it tells for all of them.
-                self._reach(shape_of(self.state_after(shape, name, number_for(position, numbers))))
+                after = self.state_after(shape, name, number_for(position, numbers))
+                ways.append((name, position, self._reach(shape_of(after))))
+        return ways
 
     def _reach(self, shape):
-        """Gives a shape the next number, unless it has one already."""
-        if shape in self._number_of:
-            return
-        if len(self._reached) == MOST_SHAPES:
-            raise PlantError("much", 0)
-        self._number_of[shape] = len(self._reached)
-        self._reached.append(shape)
+        """The number of a shape, which is the next one if it has none yet."""
+        if shape not in self._number_of:
+            if len(self.reached) == MOST_SHAPES:
+                raise PlantError("much", 0)
+            self._number_of[shape] = len(self.reached)
+            self.reached.append(shape)
+        return self._number_of[shape]

@@ -12,6 +12,12 @@ def possible(state):
     return tuple([at for at, stands in enumerate(state[1]) if stands is not None])
 
 
+def left_at(state, assumed):
+    """Those of the assumed devices that are possible."""
+    there = possible(state)
+    return tuple([device for device in assumed if device in there])
+
+
 def numbers_of(state):
     """The numbers of a state, ascending, each once."""
     found = []

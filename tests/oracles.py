@@ -295,3 +295,9 @@ def place(mine, keeps, *moves):
 def circling(names=("a",), many=2):
     """A device that allows all records, and keeps no numbers: it goes around its places, an even number of them."""
     return [place(here % 2 == 1, 0, *[(name, 0, (here + 1) % many, ()) for name in names]) for here in range(many)]
+
+
+def saying(others, room):
+    """A device that keeps nothing: the others make records with some names, the room with some."""
+    return [place(False, 0, *[(name, 0, 1, ()) for name in others]),
+            place(True, 0, *[(name, 0, 0, ()) for name in room])]
