@@ -15,3 +15,8 @@ def check_orders(plant, orders):
 def _all_there(numbers, many):
     """Whether the numbers are strictly ascending, each at least 0 and less than this many."""
     return all([0 <= number < many for number in numbers]) and all([a < b for a, b in zip(numbers, numbers[1:])])
+
+
+def copy_of_orders(orders):
+    """Orders that are the same."""
+    return {key: tuple(orders[key]) for key in ("devices", "never", "again", "promises")}

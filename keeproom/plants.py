@@ -47,9 +47,7 @@ class Plant:
 
     def look(self, row):
         """What is seen after a row: whose turn it is, the possible devices, and the answers."""
-        state = self.state_after_row(row)
-        texts = [None if answer is None else write_number(answer) for answer in self.answers_at(state)]
-        return {"mine": state[0], "possible": possible(state), "answers": tuple(texts)}
+        return self.look_at(self.state_after_row(row))
 
     def first_state(self):
         """The state before the first record."""
@@ -74,6 +72,11 @@ class Plant:
         for name, number in read_row(row, self.names):
             state = self.state_after(state, name, number)
         return state
+
+    def look_at(self, state):
+        """What is seen at a state."""
+        texts = [None if answer is None else write_number(answer) for answer in self.answers_at(state)]
+        return {"mine": state[0], "possible": possible(state), "answers": tuple(texts)}
 
     def answers_at(self, state):
         """The list of what each question answers at a state: a pair, None if nothing."""

@@ -55,3 +55,13 @@ def _with_ranks(stands, ranks):
 def _ranks_of(numbers, ranks):
     """A tuple with the rank of each number."""
     return tuple([ranks[number] for number in numbers])
+
+
+def state_of(shape, numbers):
+    """The state with a shape and with these numbers, ascending."""
+    mine, devices, cells = shape
+    there = {None: None}
+    for rank, number in enumerate(numbers):
+        there[(rank, 1)] = number
+    return (mine, tuple([_with_ranks(stands, there) for stands in devices]),
+            tuple([(there[answer], count, _ranks_of(held, there)) for answer, count, held in cells]))

@@ -285,3 +285,36 @@ def random_plant(luck, most=24):
         trees = [random_tree(luck, luck.randint(1, 3), names) for _ in range(luck.randint(0, 3))]
         if len(reached(names, devices, trees, most)) <= most:
             return names, devices, trees
+
+
+def number_after(plant, word):
+    """The number of the node after records with these names and one number."""
+    return plant.point([(name, "1") for name in word])[1]
+
+
+def change_papers(luck, given):
+    """Changes papers at one place."""
+    at = luck.randrange(len(given["wins"]))
+    good, evil = given["good"], given["evil"][at]
+    kind = luck.randrange(8)
+    if kind == 0:
+        given["wins"][at] = not given["wins"][at]
+    elif kind == 1 and good[at]:
+        goal = luck.randrange(len(good[at]))
+        entry = list(good[at][goal])
+        entry[luck.randrange(3)] = luck.randint(0, 4)
+        good[at][goal] = tuple(entry)
+    elif kind == 2:
+        evil[luck.choice(("rank", "goal"))] = luck.randint(0, 4)
+    elif kind == 3 and evil["far"] and evil["choice"]:
+        numbers = evil[luck.choice(("far", "choice"))]
+        numbers[luck.randrange(len(numbers))] = luck.randint(0, 4)
+    elif kind == 4:
+        del luck.choice((good[at], evil["far"], evil["choice"]))[-1:]
+    elif kind == 5:
+        luck.choice((evil["far"], evil["choice"])).append(luck.randint(0, 4))
+    elif kind == 6:
+        good[at].append((luck.randint(0, 4), luck.randint(0, 4), luck.randint(0, 4)))
+    elif kind == 7:
+        entry = luck.choice(given["good"])
+        good[at] = list(entry)

@@ -301,3 +301,14 @@ def saying(others, room):
     """A device that keeps nothing: the others make records with some names, the room with some."""
     return [place(False, 0, *[(name, 0, 1, ()) for name in others]),
             place(True, 0, *[(name, 0, 0, ()) for name in room])]
+
+
+def trap():
+    """The others say a. The room may say a; if it says b, it has to say b for ever."""
+    return [place(False, 0, ("a", 0, 1, ())), place(True, 0, ("a", 0, 0, ()), ("b", 0, 2, ())),
+            place(False, 0, ("a", 0, 3, ())), place(True, 0, ("b", 0, 2, ()))]
+
+
+def row_of(word, text="1"):
+    """A row of records with these names and one number."""
+    return [(name, text) for name in word]

@@ -5,22 +5,40 @@ import unittest
 
 from keeproom.arenas import arena, can
 from keeproom.errors import KeeproomError, OrdersError, RowError
+from keeproom.others import Others
 from keeproom.papers import check, papers
 from keeproom.plants import Plant
+from keeproom.rooms import Room
 from tests.games import KEYS, orders_of
 from tests.oracles import circling
 
 AB = ("a", "b")
+
+
+def plant_of(devices, questions):
+    return Plant(AB, [circling(AB)] * devices, ("now",) * questions)
+
+
+def after_all(call, *arguments):
+    """Calls what may raise any other error of the program."""
+    try:
+        call(*arguments)
+    except OrdersError:
+        raise
+    except KeeproomError:
+        pass
+
+
 TAKERS = (
     arena,
     lambda plant, orders: can(plant, orders, [("a", "1")]),
     papers,
     lambda plant, orders: check(plant, orders, papers(plant, orders_of((0,)))),
+    lambda plant, orders: after_all(Room, plant, orders),
+    lambda plant, orders: after_all(Room(plant, orders_of((0,))).order, orders),
+    lambda plant, orders: Room(plant, orders_of((0,))).would(orders),
+    lambda plant, orders: after_all(Others, plant, orders, [("a", "1")]),
 )
-
-
-def plant_of(devices, questions):
-    return Plant(AB, [circling(AB)] * devices, ("now",) * questions)
 
 
 class OrdersTest(unittest.TestCase):

@@ -11,7 +11,8 @@ from keeproom.papers import check, papers
 from keeproom.plants import Plant
 from keeproom.proofs import papers_for
 from keeproom.questions import write_question
-from tests.games import orders_of, random_nodes, random_orders, random_plant, slow_fault, slow_papers
+from tests.games import (change_papers, number_after, orders_of, random_nodes, random_orders, random_plant, slow_fault,
+                         slow_papers)
 from tests.oracles import circling, lucky, place, saying
 
 AB = ("a", "b")
@@ -36,11 +37,6 @@ def far_one():
     device = [place(False, 0, ("c", 0, 1, ())), place(True, 0, ("c", 0, 2, ())),
               place(False, 0, ("c", 0, 3, ()), ("a", 0, 3, ())), place(True, 0, ("c", 0, 0, ()))]
     return Plant(("c", "a"), [device], ("nothing", "is(a)", "is(c)")), orders_of(again=(0,), promises=(1, 2))
-
-
-def number_after(plant, word):
-    """The number of the node after records with these names and one number."""
-    return plant.point([(name, "1") for name in word])[1]
 
 
 def random_plants(luck, many):
@@ -157,34 +153,6 @@ class PapersTest(unittest.TestCase):
         for key in told:
             told[key].clear()
         self.assertEqual(papers(plant, orders), before)
-
-
-def change(luck, given, nodes):
-    """Changes papers at one place."""
-    at = luck.randrange(nodes)
-    good, evil = given["good"], given["evil"][at]
-    kind = luck.randrange(8)
-    if kind == 0:
-        given["wins"][at] = not given["wins"][at]
-    elif kind == 1 and good[at]:
-        goal = luck.randrange(len(good[at]))
-        entry = list(good[at][goal])
-        entry[luck.randrange(3)] = luck.randint(0, 4)
-        good[at][goal] = tuple(entry)
-    elif kind == 2:
-        evil[luck.choice(("rank", "goal"))] = luck.randint(0, 4)
-    elif kind == 3 and evil["far"] and evil["choice"]:
-        numbers = evil[luck.choice(("far", "choice"))]
-        numbers[luck.randrange(len(numbers))] = luck.randint(0, 4)
-    elif kind == 4:
-        del luck.choice((good[at], evil["far"], evil["choice"]))[-1:]
-    elif kind == 5:
-        luck.choice((evil["far"], evil["choice"])).append(luck.randint(0, 4))
-    elif kind == 6:
-        good[at].append((luck.randint(0, 4), luck.randint(0, 4), luck.randint(0, 4)))
-    elif kind == 7:
-        entry = luck.choice(given["good"])
-        good[at] = list(entry)
 
 
 class CheckTest(unittest.TestCase):
@@ -393,7 +361,7 @@ class CheckTest(unittest.TestCase):
             orders = random_orders(luck, 1, 3, luck.choice((0.5, 0.9)))
             given = papers_for(Ground(nodes, orders))
             for _ in range(luck.choice((1, 1, 2, 3, 6))):
-                change(luck, given, len(nodes))
+                change_papers(luck, given)
             before = copy.deepcopy(given)
             fault = first_fault(Ground(nodes, orders), given)
             self.assertEqual(fault, slow_fault(nodes, orders, given))
@@ -408,7 +376,7 @@ class CheckTest(unittest.TestCase):
             nodes = arena(plant, orders)
             given = papers(plant, orders)
             for _ in range(luck.choice((1, 2, 5))):
-                change(luck, given, len(nodes))
+                change_papers(luck, given)
             self.assertEqual(check(plant, orders, given), slow_fault(nodes, orders, given))
 
     def test_papers_of_other_orders(self):
